@@ -397,31 +397,39 @@ func TestCommon(t *testing.T) {
 	}
 }
 
-// P4.2: a number that is no node with any f is no node that two lists have in common (R8).
-func TestCommonOutside(t *testing.T) {
+// P4.2: the votes' nodes are compared as they stand, whatever numbers they are.
+func TestCommonAnyNumber(t *testing.T) {
+	meets(t, votes(3, 1, 3, 7, -2), votes(-2, 7, 3, 3, 9), []int{-2, 3, 7})
+	meets(t, votes(math.MaxInt, 13, math.MinInt, 5, 13), votes(13, math.MinInt, 6, math.MaxInt), []int{math.MinInt, 13, math.MaxInt})
 	for _, other := range append(far(), 13, 14, 15, 16, 31, 32, 63) {
-		meets(t, votes(other), votes(other), nil)
-		meets(t, votes(other, 12, 0), votes(0, other, 12), []int{0, 12})
+		meets(t, votes(other), votes(other), []int{other})
+		want := []int{0, 12, other}
+		slices.Sort(want)
+		meets(t, votes(other, 12, 0), votes(0, other, 12, other), want)
 		for node := range top + 1 {
 			meets(t, votes(other), votes(node), nil)
+		}
+		for _, next := range []int{other - 1, other + 1, -other - 1, other ^ 1<<16, other ^ 1<<32, other ^ math.MinInt} {
+			meets(t, votes(other), votes(next), nil)
 		}
 	}
 }
 
-// P4.2: any two lists have in common what the sentence says, looked for node by node.
+// P4.2: any two lists have in common what the sentence says, looked for number by number.
 func TestCommonAny(t *testing.T) {
+	const lo, hi = -4, 20
 	r := rand.New(rand.NewPCG(4, 3))
 	nodes := func() []int {
 		l := make([]int, r.IntN(20))
 		for i := range l {
-			l[i] = r.IntN(18) - 2
+			l[i] = lo + r.IntN(hi-lo+1)
 		}
 		return l
 	}
 	for range 20000 {
 		a, b := nodes(), nodes()
 		var want []int
-		for node := range top + 1 {
+		for node := lo; node <= hi; node++ {
 			if slices.Contains(a, node) && slices.Contains(b, node) {
 				want = append(want, node)
 			}
